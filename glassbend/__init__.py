@@ -1,0 +1,1 @@
+"""Tubes of glass along a drawing."""
