@@ -1,4 +1,7 @@
-"""The calls: what may be bent along a drawing."""
+"""The calls: what may be bent along a drawing, and plans of such bends.
+
+Place 2 i of a plan stands for piece i's first end, place 2 i + 1 for its second end.
+"""
 
 from glassbend.drawing import dot, read_pieces, shared_ends, way_from
 
@@ -10,10 +13,30 @@ TEXT_TOO_LONG = -2
 NO_SUCH_PIECE = -4
 NO_SUCH_BEND = -5
 NO_DRAWING = -6
+PLAN_NOT_RIGHT = -9
+
+NO_PIECE = 255
+
+NO_FAULT = 0
+WRONG_LENGTH = 1
+NOT_ANOTHER_PIECE = 2
+ENDS_ELSEWHERE = 3
+NOT_TOLD_BACK = 4
+TOO_SHARP = 5
 
 
 def may(c, d, i, j, t):
     """[1] if pieces i and j meet and that bend may be by c / d, [0] if it may not, or a refusal."""
+    return of_drawing(c, d, t, lambda pieces: may_of(pieces, i, j, c, d))
+
+
+def judge(c, d, t, plan):
+    """[how many tubes the plan has] if it is right by c / d, [-9, kind, place] if it isn't, or a refusal."""
+    return of_drawing(c, d, t, lambda pieces: judge_of(pieces, plan, c, d))
+
+
+def of_drawing(c, d, t, answer):
+    """What is answered of the text's pieces, or the refusal of the text or the limit, which goes ahead of it."""
     if len(t) > MOST_BYTES:
         return [TEXT_TOO_LONG]
     pieces = read_pieces(t)
@@ -21,6 +44,10 @@ def may(c, d, i, j, t):
         return [NO_DRAWING]
     if not is_limit(c, d):
         return [NO_LIMIT]
+    return answer(pieces)
+
+
+def may_of(pieces, i, j, c, d):
     if i >= len(pieces) or j >= len(pieces):
         return [NO_SUCH_PIECE]
     if i == j:
@@ -28,13 +55,23 @@ def may(c, d, i, j, t):
     shared = shared_ends(pieces[i], pieces[j])
     if shared == []:
         return [NO_SUCH_BEND]
-    if bend_may_be(way_from(pieces[i], shared[0]), way_from(pieces[j], shared[0]), c, d):
-        return [1]
-    return [0]
+    return [1 if may_go_on(pieces[i], pieces[j], shared[0], c, d) else 0]
+
+
+def judge_of(pieces, plan, c, d):
+    fault = find_fault(pieces, plan, c, d)
+    if fault is not None:
+        return [PLAN_NOT_RIGHT] + fault
+    return [len(find_tubes(pieces, plan))]
 
 
 def is_limit(c, d):
     return 1 <= d and d <= MOST_PARTS and -d <= c and c <= d
+
+
+def may_go_on(one, other, joint, c, d):
+    """Whether a tube may go on at the joint from one of these pieces into the other."""
+    return bend_may_be(way_from(one, joint), way_from(other, joint), c, d)
 
 
 def bend_may_be(u, v, c, d):
@@ -45,3 +82,77 @@ def bend_may_be(u, v, c, d):
 
 def signed_square(number):
     return number * abs(number)
+
+
+def find_fault(pieces, plan, c, d):
+    """[kind, place] of what is wrong first with the plan, or None if it is right by c / d."""
+    if len(plan) != 2 * len(pieces):
+        return [WRONG_LENGTH, 0]
+    for place in range(len(plan)):
+        kind = fault_at(pieces, plan, place, c, d)
+        if kind != NO_FAULT:
+            return [kind, place]
+    return None
+
+
+def fault_at(pieces, plan, place, c, d):
+    """The kind of what is wrong first at the place, or NO_FAULT."""
+    piece = place // 2
+    following = plan[place]
+    if following == NO_PIECE:
+        return NO_FAULT
+    if following >= len(pieces) or following == piece:
+        return NOT_ANOTHER_PIECE
+    joint = joint_at(pieces, place)
+    if joint not in pieces[following]:
+        return ENDS_ELSEWHERE
+    if plan[place_of(pieces, following, joint)] != piece:
+        return NOT_TOLD_BACK
+    if not may_go_on(pieces[piece], pieces[following], joint, c, d):
+        return TOO_SHARP
+    return NO_FAULT
+
+
+def joint_at(pieces, place):
+    return pieces[place // 2][place % 2]
+
+
+def place_of(pieces, piece, joint):
+    """The place in a plan of the piece's end at the joint."""
+    return 2 * piece + pieces[piece].index(joint)
+
+
+def find_tubes(pieces, plan):
+    """The tubes of a right plan in their order, each as the places at which it comes into its pieces."""
+    # From the loose ends on come all rows, each from its lesser end piece. What is left then are rings:
+    # not before, since a row's least piece may lie in its midst.
+    loose = [place for place in range(len(plan)) if plan[place] == NO_PIECE]
+    firsts = [2 * piece for piece in range(len(pieces))]
+    found = []
+    told = {}
+    for start in loose + firsts:
+        if start // 2 not in told:
+            tube = go_through(pieces, plan, start)
+            found.append(tube)
+            for place in tube:
+                told[place // 2] = True
+    return sorted(found)
+
+
+def go_through(pieces, plan, start):
+    """The places at which the tube that comes into a piece at start comes into its pieces, from that one on."""
+    tube = [start]
+    place = place_behind(pieces, plan, start)
+    while place is not None and place != start:
+        tube.append(place)
+        place = place_behind(pieces, plan, place)
+    return tube
+
+
+def place_behind(pieces, plan, place):
+    """Where the tube that comes into a piece at the place comes into the next piece, or None if it ends."""
+    # A piece's two places are an even number and the odd one behind it.
+    leaving = place ^ 1
+    if plan[leaving] == NO_PIECE:
+        return None
+    return place_of(pieces, plan[leaving], joint_at(pieces, leaving))

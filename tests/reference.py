@@ -1,5 +1,6 @@
 """What the tests share: drawings made short, and a second, slow reading of the document to compare with."""
 
+import itertools
 import math
 import re
 from fractions import Fraction
@@ -87,3 +88,114 @@ def is_drawing(t):
     if max(ends.count(end) for end in ends) > 8:
         return False
     return not any(meet_badly(one, other) for k, one in enumerate(pieces) for other in pieces[:k])
+
+
+def points_around(middle, ways):
+    return [(middle[0] + x, middle[1] + y) for x, y in ways]
+
+
+def star(*ways, middle=(100, 100)):
+    """Pieces that all begin at one point."""
+    return [(middle, end) for end in points_around(middle, ways)]
+
+
+def row(*points):
+    """The pieces of one stroke."""
+    return list(zip(points, points[1:]))
+
+
+def turned(pieces, *numbers):
+    """The same pieces, but those of these numbers with their ends changed over."""
+    return [(b, a) if k in numbers else (a, b) for k, (a, b) in enumerate(pieces)]
+
+
+def plan_with(pieces, *pairs):
+    """The plan in which just these pairs of pieces go on into one another, each where they meet."""
+    plan = [255] * (2 * len(pieces))
+    for i, j in pairs:
+        for k in (0, 1):
+            for h in (0, 1):
+                if pieces[i][k] == pieces[j][h]:
+                    plan[2 * i + k] = j
+                    plan[2 * j + h] = i
+    return plan
+
+
+def ends_of(pieces):
+    """The points at which pieces end, in the order of a plan's places."""
+    return [end for piece in pieces for end in piece]
+
+
+def may_bend(pieces, i, j, joint, c, d):
+    """Whether pieces i and j, which both end at the joint, may go on into one another there."""
+    ways = []
+    for piece in (pieces[i], pieces[j]):
+        far = piece[1] if piece[0] == joint else piece[0]
+        ways.append((far[0] - joint[0], far[1] - joint[1]))
+    return may_be(ways[0], ways[1], c, d) == 1
+
+
+def fault(pieces, plan, c, d):
+    """The kind and the place of what is first wrong with the plan, or None."""
+    if len(plan) != 2 * len(pieces):
+        return (1, 0)
+    ends = ends_of(pieces)
+    for place, number in enumerate(plan):
+        if number == 255:
+            continue
+        if number == place // 2 or number not in range(len(pieces)):
+            return (2, place)
+        there = [other for other in (2 * number, 2 * number + 1) if ends[other] == ends[place]]
+        if not there:
+            return (3, place)
+        if plan[there[0]] != place // 2:
+            return (4, place)
+        if not may_bend(pieces, place // 2, number, ends[place], c, d):
+            return (5, place)
+    return None
+
+
+def count_tubes(plan):
+    """How many sets of pieces that go on into one another a right plan has."""
+    sets = [{piece} for piece in range(len(plan) // 2)]
+    for place, number in enumerate(plan):
+        if number != 255:
+            joined = [one for one in sets if place // 2 in one or number in one]
+            sets = [one for one in sets if one not in joined] + [set().union(*joined)]
+    return len(sets)
+
+
+def right_plans(pieces, c, d):
+    """All right plans: of all lists of pieces that end where a plan's places lie those without a fault."""
+    ends = ends_of(pieces)
+    offers = []
+    for place, end in enumerate(ends):
+        offers.append([255] + [k for k, piece in enumerate(pieces) if end in piece and k != place // 2])
+    return [list(plan) for plan in itertools.product(*offers) if fault(pieces, plan, c, d) is None]
+
+
+def random_pieces(source, count, size):
+    """Up to so many pieces of a drawing, between points of a square of so many points a side."""
+    pieces = []
+    for turn in range(20 * count):
+        one, other = [(source.randrange(size), source.randrange(size)) for end in range(2)]
+        ends = ends_of(pieces)
+        if len(pieces) == count or one == other or max(ends.count(one), ends.count(other)) == 8:
+            continue
+        if not any(meet_badly((one, other), piece) for piece in pieces):
+            pieces.append((one, other))
+    return pieces
+
+
+def random_plan(source, pieces, c, d):
+    """A right plan."""
+    plan = [255] * (2 * len(pieces))
+    ends = ends_of(pieces)
+    places = list(range(len(plan)))
+    source.shuffle(places)
+    for p in places:
+        for q in places:
+            free = p // 2 != q // 2 and plan[p] == plan[q] == 255 and ends[p] == ends[q]
+            if free and source.random() < 0.8 and may_bend(pieces, p // 2, q // 2, ends[p], c, d):
+                plan[p], plan[q] = q // 2, p // 2
+    return plan

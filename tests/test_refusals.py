@@ -1,20 +1,24 @@
-"""may's refusals, their edges and their order, and that a call stands by itself."""
+"""The refusals, their edges and their order, and that a call stands by itself."""
 
 import unittest
 
-from glassbend.bending import may
+from glassbend.bending import judge, may
 from tests.reference import Guarded, drawing, text
 
 LARGEST = 2 ** 32 - 1
 GOOD = drawing([(0, 0), (10, 0), (10, 10)], [(20, 20), (30, 20)])
 BAD = text("sign Probe\n")
 LONG = GOOD + [10] * (65537 - len(GOOD))
+# The plan in which pieces 0 and 1 of the good drawing, which stand at a right angle, go on into one another.
+BENT = [255, 1, 0, 255, 255, 255]
+PLANS = [BENT, [255] * 6, [255, 1, 0, 255], [1, 255, 255, 0], [255] * 4, [], [0] * 6, [255, 1, 255, 255]]
 
 
 class Limits(unittest.TestCase):
     def assert_limit(self, c, d, is_one):
-        answer = may(c, d, 0, 1, GOOD)
-        self.assertEqual(answer, [int(c >= 0)] if is_one else [-1], (c, d))
+        self.assertEqual(may(c, d, 0, 1, GOOD), [int(c >= 0)] if is_one else [-1], (c, d))
+        judged = [2] if c >= 0 else [-9, 5, 1]
+        self.assertEqual(judge(c, d, GOOD, BENT), judged if is_one else [-1], (c, d))
 
     def test_d(self):
         for d, is_one in [(0, False), (1, True), (2, True), (999, True), (1000, True), (1001, False),
@@ -71,50 +75,75 @@ class Length(unittest.TestCase):
             for length, answer in [(65535, -6), (65536, -6), (65537, -2), (66000, -2)]:
                 t = (part * (length // len(part) + 1))[:length]
                 self.assertEqual(may(0, 1, 0, 1, t), [answer])
+                self.assertEqual(judge(0, 1, t, BENT), [answer])
 
 
 class Order(unittest.TestCase):
-    def test_the_first_that_holds_is_told(self):
-        limits = [(0, 1, 0), (2, 1, -1), (0, 0, -1), (0, 1001, -1)]
-        numbers = [(0, 1, 1), (0, 2, -5), (1, 1, -5), (3, 3, -4), (0, 3, -4), (LARGEST, 0, -4)]
-        for t, by_text in [(LONG, -2), (BAD, -6), ([], -6), (GOOD, 0)]:
-            for c, d, by_limit in limits:
+    TEXTS = [(LONG, [-2]), (BAD, [-6]), ([], [-6]), (GOOD, None)]
+    LIMITS = [(0, 1, None), (2, 1, [-1]), (0, 0, [-1]), (0, 1001, [-1])]
+    PLANS = [(BENT, None), ([255] * 6, None), ([], [-9, 1, 0]), ([255] * 128, [-9, 1, 0]), ([3] + [255] * 5, [-9, 2, 0]),
+             ([255] * 5 + [0], [-9, 3, 5]), ([255, 1, 255, 255, 255, 255], [-9, 4, 1])]
+
+    def test_of_may(self):
+        numbers = [(0, 1, [1]), (0, 2, [-5]), (1, 1, [-5]), (3, 3, [-4]), (0, 3, [-4]), (LARGEST, 0, [-4])]
+        for t, by_text in self.TEXTS:
+            for c, d, by_limit in self.LIMITS:
                 for i, j, by_pieces in numbers:
                     answer = by_text or by_limit or by_pieces
-                    self.assertEqual(may(c, d, i, j, t), [answer], (len(t), c, d, i, j))
+                    self.assertEqual(may(c, d, i, j, t), answer, (len(t), c, d, i, j))
+
+    def test_of_judge(self):
+        for t, by_text in self.TEXTS:
+            for c, d, by_limit in self.LIMITS:
+                for plan, by_plan in self.PLANS:
+                    answer = by_text or by_limit or by_plan or [3 - (plan == BENT)]
+                    self.assertEqual(judge(c, d, t, plan), answer, (len(t), c, d, plan))
+                answer = by_text or by_limit or [-9, 5, 1]
+                self.assertEqual(judge(-1 if c == 0 else c, d, t, BENT), answer)
+
+
+def calls():
+    """Calls of each kind, each a function and what is handed in to it."""
+    made = []
+    for t in (GOOD, BAD, LONG, [], drawing([(5, 5), (0, 0), (5, 0)])):
+        for c, d in [(0, 1), (1, 1), (-1, 1), (1, 0)]:
+            made += [(may, c, d, i, j, t) for i, j in [(0, 1), (1, 0), (0, 2), (1, 1), (9, 0)]]
+            made += [(judge, c, d, t, plan) for plan in PLANS]
+    return made
 
 
 class CallsByThemselves(unittest.TestCase):
-    CALLS = [(c, d, i, j, t)
-             for t in (GOOD, BAD, LONG, [], drawing([(5, 5), (0, 0), (5, 0)]))
-             for c, d in ((0, 1), (1, 1), (1, 0))
-             for i, j in ((0, 1), (1, 0), (0, 2), (1, 1), (9, 0))]
+    CALLS = calls()
+
+    def answer(self, call):
+        return call[0](*call[1:])
 
     def test_what_is_handed_in_stays_as_it_was(self):
-        for c, d, i, j, t in self.CALLS:
-            guarded = Guarded(t)
-            may(c, d, i, j, guarded)
-            self.assertEqual(guarded, t)
+        for call in self.CALLS:
+            guarded = [Guarded(value) if isinstance(value, list) else value for value in call]
+            self.answer(guarded)
+            self.assertEqual(guarded, list(call))
 
     def test_what_is_given_back_is_a_new_list_of_whole_numbers(self):
         for call in self.CALLS:
-            answer = may(*call)
+            answer = self.answer(call)
             self.assertIs(type(answer), list)
-            self.assertEqual([type(number) for number in answer], [int])
+            self.assertEqual({type(number) for number in answer}, {int})
             kept = list(answer)
             answer.append(77)
-            self.assertEqual(may(*call), kept)
+            self.assertEqual(self.answer(call), kept)
 
     def test_the_same_whatever_was_called_before(self):
-        alone = [may(*call) for call in self.CALLS]
-        self.assertEqual(list(reversed([may(*call) for call in reversed(self.CALLS)])), alone)
-        for step in (2, 7, 11):
+        alone = [self.answer(call) for call in self.CALLS]
+        self.assertEqual(list(reversed([self.answer(call) for call in reversed(self.CALLS)])), alone)
+        for step in (7, 11, 23):
             for k in range(len(alone)):
                 k = k * step % len(alone)
-                self.assertEqual(may(*self.CALLS[k]), alone[k])
+                self.assertEqual(self.answer(self.CALLS[k]), alone[k])
 
-    def test_by_its_names(self):
+    def test_by_their_names(self):
         self.assertEqual(may(t=GOOD, j=1, i=0, d=1, c=0), [1])
+        self.assertEqual(judge(plan=BENT, t=GOOD, d=1, c=0), [2])
 
 
 if __name__ == "__main__":
