@@ -35,6 +35,12 @@ def judge(c, d, t, plan):
     return of_drawing(c, d, t, lambda pieces: judge_of(pieces, plan, c, d))
 
 
+def tubes(t, plan):
+    """[how many tubes the plan has, then what is told of each of them], or a refusal."""
+    # The limit 1 / 1 lets any bend be.
+    return of_drawing(1, 1, t, lambda pieces: tubes_of(pieces, plan))
+
+
 def of_drawing(c, d, t, answer):
     """What is answered of the text's pieces, or the refusal of the text or the limit, which goes ahead of it."""
     if len(t) > MOST_BYTES:
@@ -63,6 +69,16 @@ def judge_of(pieces, plan, c, d):
     if fault is not None:
         return [PLAN_NOT_RIGHT] + fault
     return [len(find_tubes(pieces, plan))]
+
+
+def tubes_of(pieces, plan):
+    if find_fault(pieces, plan, 1, 1) is not None:
+        return [PLAN_NOT_RIGHT]
+    found = find_tubes(pieces, plan)
+    answer = [len(found)]
+    for tube in found:
+        answer.extend(tell_tube(plan, tube))
+    return answer
 
 
 def is_limit(c, d):
@@ -137,6 +153,15 @@ def find_tubes(pieces, plan):
             for place in tube:
                 told[place // 2] = True
     return sorted(found)
+
+
+def tell_tube(plan, tube):
+    """How many pieces it has, 1 if it is a ring, else 0, and each piece's number and 1 if it is turned, else 0."""
+    # Only a ring comes into its first piece out of another one.
+    told = [len(tube), 0 if plan[tube[0]] == NO_PIECE else 1]
+    for place in tube:
+        told.extend([place // 2, place % 2])
+    return told
 
 
 def go_through(pieces, plan, start):

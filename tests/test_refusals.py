@@ -2,7 +2,7 @@
 
 import unittest
 
-from glassbend.bending import judge, may
+from glassbend.bending import judge, may, tubes
 from tests.reference import Guarded, drawing, text
 
 LARGEST = 2 ** 32 - 1
@@ -76,6 +76,7 @@ class Length(unittest.TestCase):
                 t = (part * (length // len(part) + 1))[:length]
                 self.assertEqual(may(0, 1, 0, 1, t), [answer])
                 self.assertEqual(judge(0, 1, t, BENT), [answer])
+                self.assertEqual(tubes(t, BENT), [answer])
 
 
 class Order(unittest.TestCase):
@@ -101,6 +102,14 @@ class Order(unittest.TestCase):
                 answer = by_text or by_limit or [-9, 5, 1]
                 self.assertEqual(judge(-1 if c == 0 else c, d, t, BENT), answer)
 
+    def test_of_tubes(self):
+        for t, by_text in self.TEXTS:
+            for plan, by_plan in self.PLANS:
+                answer = by_text or (by_plan and [-9]) or [3 - (plan == BENT)]
+                self.assertEqual(tubes(t, plan)[:1], answer, (len(t), plan))
+                if by_text or by_plan:
+                    self.assertEqual(len(tubes(t, plan)), 1)
+
 
 def calls():
     """Calls of each kind, each a function and what is handed in to it."""
@@ -109,6 +118,7 @@ def calls():
         for c, d in [(0, 1), (1, 1), (-1, 1), (1, 0)]:
             made += [(may, c, d, i, j, t) for i, j in [(0, 1), (1, 0), (0, 2), (1, 1), (9, 0)]]
             made += [(judge, c, d, t, plan) for plan in PLANS]
+        made += [(tubes, t, plan) for plan in PLANS]
     return made
 
 
@@ -144,6 +154,7 @@ class CallsByThemselves(unittest.TestCase):
     def test_by_their_names(self):
         self.assertEqual(may(t=GOOD, j=1, i=0, d=1, c=0), [1])
         self.assertEqual(judge(plan=BENT, t=GOOD, d=1, c=0), [2])
+        self.assertEqual(tubes(plan=BENT, t=GOOD), [2, 2, 0, 0, 0, 1, 0, 1, 0, 2, 0])
 
 
 if __name__ == "__main__":
