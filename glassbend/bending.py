@@ -7,12 +7,14 @@ from glassbend.drawing import dot, read_pieces, shared_ends, way_from
 
 MOST_BYTES = 65536
 MOST_PARTS = 1000
+MOST_WAYS = 4096
 
 NO_LIMIT = -1
 TEXT_TOO_LONG = -2
 NO_SUCH_PIECE = -4
 NO_SUCH_BEND = -5
 NO_DRAWING = -6
+TOO_MANY_WAYS = -8
 PLAN_NOT_RIGHT = -9
 
 NO_PIECE = 255
@@ -39,6 +41,11 @@ def tubes(t, plan):
     """[how many tubes the plan has, then what is told of each of them], or a refusal."""
     # The limit 1 / 1 lets any bend be.
     return of_drawing(1, 1, t, lambda pieces: tubes_of(pieces, plan))
+
+
+def fewest(c, d, t):
+    """[how many tubes the plan found by c / d has, then the plan's numbers], or a refusal."""
+    return of_drawing(c, d, t, lambda pieces: fewest_of(pieces, c, d))
 
 
 def of_drawing(c, d, t, answer):
@@ -79,6 +86,13 @@ def tubes_of(pieces, plan):
     for tube in found:
         answer.extend(tell_tube(plan, tube))
     return answer
+
+
+def fewest_of(pieces, c, d):
+    ways = list_ways(pieces, c, d)
+    if ways is None:
+        return [TOO_MANY_WAYS]
+    return find_fewest(pieces, right_plans(pieces, ways))
 
 
 def is_limit(c, d):
@@ -181,3 +195,76 @@ def place_behind(pieces, plan, place):
     if plan[leaving] == NO_PIECE:
         return None
     return place_of(pieces, plan[leaving], joint_at(pieces, leaving))
+
+
+def find_fewest(pieces, plans):
+    """[how many tubes it has, then its numbers] of the plan with the fewest tubes, of several such the least."""
+    best = [len(pieces)] + no_bends(pieces)
+    for plan in plans:
+        # Two loose ends make a row, and rings only add to the rows: most plans needn't be gone through.
+        if plan.count(NO_PIECE) // 2 <= best[0]:
+            best = min(best, [len(find_tubes(pieces, plan))] + plan)
+    return best
+
+
+def no_bends(pieces):
+    """The plan in which no piece goes on."""
+    return [NO_PIECE] * (2 * len(pieces))
+
+
+def list_ways(pieces, c, d):
+    """The ways to go on at each joint where there is a choice, or None if the drawing has too many ways."""
+    ways = []
+    count = 1
+    for places in places_by_joint(pieces):
+        choices = choose_pairs(pieces, places, c, d)
+        count = count * len(choices)
+        if count > MOST_WAYS:
+            return None
+        if len(choices) > 1:
+            ways.append(choices)
+    return ways
+
+
+def places_by_joint(pieces):
+    by_joint = {}
+    for place in range(2 * len(pieces)):
+        by_joint.setdefault(joint_at(pieces, place), []).append(place)
+    return list(by_joint.values())
+
+
+def choose_pairs(pieces, places, c, d):
+    """All choices of pairs of these places of one joint, each place in at most one pair, each bend one that may be."""
+    if places == []:
+        return [[]]
+    first = places[0]
+    rest = places[1:]
+    choices = []
+    for other in rest:
+        if may_go_on(pieces[first // 2], pieces[other // 2], joint_at(pieces, first), c, d):
+            left = [place for place in rest if place != other]
+            for choice in choose_pairs(pieces, left, c, d):
+                choices.append([(first, other)] + choice)
+    # Last, so that plans with many pairs come early.
+    return choices + choose_pairs(pieces, rest, c, d)
+
+
+def right_plans(pieces, ways):
+    """All right plans, given the ways to go on at each joint."""
+    plans = [no_bends(pieces)]
+    for choices in ways:
+        longer = []
+        for plan in plans:
+            for choice in choices:
+                longer.append(with_pairs(plan, choice))
+        plans = longer
+    return plans
+
+
+def with_pairs(plan, pairs):
+    """A copy of the plan in which these places go on into one another, too."""
+    changed = list(plan)
+    for pair in pairs:
+        changed[pair[0]] = pair[1] // 2
+        changed[pair[1]] = pair[0] // 2
+    return changed

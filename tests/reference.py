@@ -174,6 +174,47 @@ def right_plans(pieces, c, d):
     return [list(plan) for plan in itertools.product(*offers) if fault(pieces, plan, c, d) is None]
 
 
+def ways_by_joint(pieces, c, d):
+    """For each joint its ways to go on: all sets of pairs of places in which no place stands twice."""
+    ends = ends_of(pieces)
+    ways = []
+    for joint in sorted(set(ends)):
+        places = [place for place, end in enumerate(ends) if end == joint]
+        bends = [(p, q) for p, q in itertools.combinations(places, 2) if may_bend(pieces, p // 2, q // 2, joint, c, d)]
+        sets = [pairs for count in range(5) for pairs in itertools.combinations(bends, count)]
+        ways.append([pairs for pairs in sets if len(set(sum(pairs, ()))) == 2 * len(pairs)])
+    return ways
+
+
+def count_ways(pieces, c, d):
+    return math.prod(len(ways) for ways in ways_by_joint(pieces, c, d))
+
+
+def plans_by_joint(pieces, c, d):
+    """All right plans: of each joint's ways one."""
+    plans = []
+    for chosen in itertools.product(*ways_by_joint(pieces, c, d)):
+        plan = [255] * (2 * len(pieces))
+        for p, q in itertools.chain(*chosen):
+            plan[p], plan[q] = q // 2, p // 2
+        plans.append(plan)
+    return plans
+
+
+def least_of(plans):
+    """How many tubes the plan found has, if these are all right plans, and its numbers."""
+    return min([count_tubes(plan), *plan] for plan in plans)
+
+
+def parts_of(pieces):
+    """The parts, each a set of pieces' numbers."""
+    parts = []
+    for number, piece in enumerate(pieces):
+        joined = [part for part in parts if any(set(piece) & set(pieces[other]) for other in part)]
+        parts = [part for part in parts if part not in joined] + [{number}.union(*joined)]
+    return parts
+
+
 def random_pieces(source, count, size):
     """Up to so many pieces of a drawing, between points of a square of so many points a side."""
     pieces = []

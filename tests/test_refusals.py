@@ -2,7 +2,7 @@
 
 import unittest
 
-from glassbend.bending import judge, may, tubes
+from glassbend.bending import fewest, judge, may, tubes
 from tests.reference import Guarded, drawing, text
 
 LARGEST = 2 ** 32 - 1
@@ -11,6 +11,7 @@ BAD = text("sign Probe\n")
 LONG = GOOD + [10] * (65537 - len(GOOD))
 # The plan in which pieces 0 and 1 of the good drawing, which stand at a right angle, go on into one another.
 BENT = [255, 1, 0, 255, 255, 255]
+MANY = drawing([(k, k % 2) for k in range(15)])
 PLANS = [BENT, [255] * 6, [255, 1, 0, 255], [1, 255, 255, 0], [255] * 4, [], [0] * 6, [255, 1, 255, 255]]
 
 
@@ -19,6 +20,8 @@ class Limits(unittest.TestCase):
         self.assertEqual(may(c, d, 0, 1, GOOD), [int(c >= 0)] if is_one else [-1], (c, d))
         judged = [2] if c >= 0 else [-9, 5, 1]
         self.assertEqual(judge(c, d, GOOD, BENT), judged if is_one else [-1], (c, d))
+        found = [2] + BENT if c >= 0 else [3] + [255] * 6
+        self.assertEqual(fewest(c, d, GOOD), found if is_one else [-1], (c, d))
 
     def test_d(self):
         for d, is_one in [(0, False), (1, True), (2, True), (999, True), (1000, True), (1001, False),
@@ -77,6 +80,7 @@ class Length(unittest.TestCase):
                 self.assertEqual(may(0, 1, 0, 1, t), [answer])
                 self.assertEqual(judge(0, 1, t, BENT), [answer])
                 self.assertEqual(tubes(t, BENT), [answer])
+                self.assertEqual(fewest(0, 1, t), [answer])
 
 
 class Order(unittest.TestCase):
@@ -110,14 +114,24 @@ class Order(unittest.TestCase):
                 if by_text or by_plan:
                     self.assertEqual(len(tubes(t, plan)), 1)
 
+    def test_of_fewest(self):
+        # Behind the byte 10 that ends it: no drawing's, or too long.
+        texts = [(MANY + [32], [-6]), (MANY + [10] * 65536, [-2]), (MANY, None)]
+        for t, by_text in self.TEXTS[:3] + texts:
+            for c, d, by_limit in [(1, 1, None)] + self.LIMITS[1:]:
+                self.assertEqual(fewest(c, d, t), by_text or by_limit or [-8], (len(t), c, d))
+        for c, d, by_limit in self.LIMITS:
+            self.assertEqual(fewest(c, d, GOOD), by_limit or [2] + BENT)
+
 
 def calls():
     """Calls of each kind, each a function and what is handed in to it."""
     made = []
-    for t in (GOOD, BAD, LONG, [], drawing([(5, 5), (0, 0), (5, 0)])):
+    for t in (GOOD, BAD, LONG, [], MANY, drawing([(5, 5), (0, 0), (5, 0)])):
         for c, d in [(0, 1), (1, 1), (-1, 1), (1, 0)]:
             made += [(may, c, d, i, j, t) for i, j in [(0, 1), (1, 0), (0, 2), (1, 1), (9, 0)]]
             made += [(judge, c, d, t, plan) for plan in PLANS]
+            made.append((fewest, c, d, t))
         made += [(tubes, t, plan) for plan in PLANS]
     return made
 
@@ -154,6 +168,7 @@ class CallsByThemselves(unittest.TestCase):
     def test_by_their_names(self):
         self.assertEqual(may(t=GOOD, j=1, i=0, d=1, c=0), [1])
         self.assertEqual(judge(plan=BENT, t=GOOD, d=1, c=0), [2])
+        self.assertEqual(fewest(t=GOOD, d=1, c=0), [2] + BENT)
         self.assertEqual(tubes(plan=BENT, t=GOOD), [2, 2, 0, 0, 0, 1, 0, 1, 0, 2, 0])
 
 
