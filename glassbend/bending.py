@@ -3,7 +3,7 @@
 Place 2 i of a plan stands for piece i's first end, place 2 i + 1 for its second end.
 """
 
-from glassbend.drawing import dot, read_pieces, shared_ends, way_from
+from glassbend.drawing import MOST_COORDINATE, dot, read_pieces, shared_ends, way_from
 
 MOST_BYTES = 65536
 MOST_PARTS = 1000
@@ -46,6 +46,15 @@ def tubes(t, plan):
 def fewest(c, d, t):
     """[how many tubes the plan found by c / d has, then the plan's numbers], or a refusal."""
     return of_drawing(c, d, t, lambda pieces: fewest_of(pieces, c, d))
+
+
+def angle(x, y, z, w, c, d):
+    """[1] if the angle between (x, y) and (z, w) has a cosine of c / d or less, [0] if more, [2] if there is none."""
+    u = (x, y)
+    v = (z, w)
+    if not is_way(u) or not is_way(v) or not is_limit(c, d):
+        return [2]
+    return [1 if bend_may_be(u, v, c, d) else 0]
 
 
 def of_drawing(c, d, t, answer):
@@ -97,6 +106,11 @@ def fewest_of(pieces, c, d):
 
 def is_limit(c, d):
     return 1 <= d and d <= MOST_PARTS and -d <= c and c <= d
+
+
+def is_way(u):
+    """Whether this may be a piece's way from one of its ends."""
+    return u != (0, 0) and all([abs(number) <= MOST_COORDINATE for number in u])
 
 
 def may_go_on(one, other, joint, c, d):

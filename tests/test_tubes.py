@@ -4,7 +4,8 @@ import random
 import unittest
 
 from glassbend.bending import judge, tubes
-from tests.reference import count_tubes, drawing, ends_of, fault, plan_with, random_pieces, random_plan, row, star, turned
+from tests.reference import (count_tubes, drawing, ends_of, fault, plan_with, random_pieces, random_plan, row, star,
+                             turned)
 
 CORNERS = row((0, 0), (9, 0), (9, 9), (18, 9), (18, 18), (27, 18))
 SQUARE = row((0, 0), (10, 0), (10, 10), (0, 10), (0, 0))
