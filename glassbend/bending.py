@@ -49,7 +49,7 @@ def fewest(c, d, t):
 
 
 def angle(x, y, z, w, c, d):
-    """[1] if the angle between (x, y) and (z, w) has a cosine of c / d or less, [0] if more, [2] if there is none."""
+    """[1] if the two ways' angle has a cosine of c / d or less, [0] if more, [2] if a way or the limit is none."""
     u = (x, y)
     v = (z, w)
     if not is_way(u) or not is_way(v) or not is_limit(c, d):

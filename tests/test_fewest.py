@@ -141,6 +141,17 @@ class TheLeastOfTheFewest(FewestCase):
         pieces = star((-5, 0), (5, 0), (-5, 1), (1, 5))
         self.assert_found(pieces, (-1, 10), 2, (0, 3), (1, 2))
 
+    def test_the_least_where_one_joint_must_yield_to_another(self):
+        # The least choices at both joints, (6, 7) at the one and (1, 2) at the other, would close a ring of 1, 2, 7, 6.
+        # Either joint may yield; piece 1 comes ahead of piece 6, so it is the joint of piece 6 that does.
+        one, other = (20, 20), (60, 20)
+        pieces = [(one, (10, 20)), (other, (40, 30)), (other, (40, 10)), (other, (70, 30)), (other, (70, 10)),
+                  (one, (10, 10)), (one, (40, 30)), (one, (40, 10)), (one, (10, 30)), (one, (20, 5))]
+        pairs = [(0, 5), (1, 2), (3, 4), (1, 6), (2, 7), (6, 8), (7, 9)]
+        self.assertEqual(count_ways(pieces, 1, 1), 76 * 10 * 2 * 2)
+        self.assert_found(pieces, (1, 1), 3, *pairs)
+        self.assert_found(turned(pieces, 0, 1, 6, 7, 9), (1, 1), 3, *pairs)
+
     def assert_least(self, pieces, limit, plans):
         self.assertEqual(len(plans), count_ways(pieces, *limit), "the test's own two readings")
         self.assertEqual(self.check(pieces, limit), least_of(plans), (pieces, limit))
